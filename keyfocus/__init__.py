@@ -1,0 +1,1 @@
+"""Keyfocus: a focus manager for keyboard user interfaces."""
