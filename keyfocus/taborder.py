@@ -2,12 +2,12 @@
 
 from keyfocus.focusable import between, focusable_items, layer_of
 
-_COMPOSITE_KINDS = ("linear", "circular")
+COMPOSITE_KINDS = ("linear", "circular")
 
 
 def composite_of(tree, name):
     """The outermost linear or circular node between a node and its layer, or None."""
-    around = [node for node in between(tree, name) if tree.kind(node) in _COMPOSITE_KINDS]
+    around = [node for node in between(tree, name) if tree.kind(node) in COMPOSITE_KINDS]
     if len(around) == 0:
         return None
     return around[-1]
@@ -16,7 +16,7 @@ def composite_of(tree, name):
 def outer_composites(tree):
     """The list, in document order, of the linear and circular nodes that are inside no other one."""
     return [name for name in tree.names()
-            if tree.kind(name) in _COMPOSITE_KINDS and composite_of(tree, name) is None]
+            if tree.kind(name) in COMPOSITE_KINDS and composite_of(tree, name) is None]
 
 
 def members(tree, composite):

@@ -15,6 +15,9 @@ FUNCTIONS = {
     "composites": ("moved(tree, item, movement)", "found_by(tree, item, text)"),
     "recovery": ("replacement(before, item, top, allowed)",),
     "matching": ("match_on(keys, path, strokes)", "is_near(keys, node, strokes)"),
+    "routes": ("route_within(tree, start, target)",),
+    "keyhelp": ("live_bindings(manager)", "hidden_bindings(manager)", "live_defaults(manager)",
+                "meaning(manager, text)", "next_strokes(manager)", "help_text(manager)"),
 }
 METHODS = {
     ("tree", "Tree"): (
@@ -27,6 +30,24 @@ METHODS = {
     ("bindings", "Bindings"): (
         "__init__(self)", "bind(self, node, strokes, command)", "unbind(self, node, strokes)", "of(self, node)",
         "is_bound(self, node, strokes)", "drop(self, names)", "match(self, node, strokes)", "count(self)",
+    ),
+    ("announcing", "Announcements"): (
+        "__init__(self)", "tell(self, names, steps)", "message(self, text, assertive)", "queue(self)", "take(self)",
+    ),
+    ("announcing", "Tracker"): ("__init__(self)", "apply(self, announcement)", "path(self)"),
+    ("manager", "Manager"): (
+        "__init__(self, outline)", "nodes(self)", "outline(self)", "node(self, name)", "children(self, name)",
+        "ancestors(self, name)", "insert(self, parent, index, kind, name, label)", "move(self, name, parent, index)",
+        "set_label(self, name, label)", "remove(self, name)", "show(self, name)", "hide(self, name)",
+        "enable(self, name)", "disable(self, name)", "focusable_items(self, layer)", "tab_stops(self, layer)",
+        "current_item(self, composite)", "layer_item(self, layer)", "focused(self)", "focus_path(self)",
+        "open_layers(self)", "focus_next(self)", "focus_previous(self)", "next_item(self)", "previous_item(self)",
+        "first_item(self)", "last_item(self)", "typeahead(self, text)", "focus(self, name)",
+        "open_layer(self, layer)", "close_layer(self, layer)", "close_opening(self, number)",
+        "is_closed(self, number)", "bind(self, node, sequence, command)", "unbind(self, node, sequence)",
+        "bindings(self, node)", "pending(self)", "press(self, text)", "shadowing(self, node, sequence)",
+        "execute(self, command)", "announce(self, text, assertive)", "queued(self)", "take(self)",
+        "shortest_route(self, name)",
     ),
 }
 

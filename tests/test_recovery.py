@@ -6,7 +6,7 @@ import unittest
 from keyfocus.focusable import focusable_items
 from keyfocus.recovery import replacement
 from keyfocus.taborder import members, outer_composites
-from trees import random_tree, rows_of, told, tree_of
+from trees import random_tree, replaced_in, rows_of, told, tree_of
 
 BEFORE = (
     '  item a ""',
@@ -23,21 +23,6 @@ BEFORE = (
     '    item i ""',
     '  item j ""',
 )
-
-
-def replaced(rows, item, top, allowed):
-    """The replacement, told by the distances of the rows."""
-    names = [row[0] for row in rows.rows]
-    at = names.index(item)
-    ancestors = rows.ancestors(item)
-    for ancestor in ancestors[:ancestors.index(top) + 1]:
-        inside = [names.index(name) for name in allowed if name in rows.subtree(ancestor)]
-        later, earlier = [one for one in inside if one > at], [one for one in inside if one < at]
-        if later:
-            return names[min(later)]
-        if earlier:
-            return names[max(earlier)]
-    return allowed[0] if allowed else None
 
 
 class ReplacementTest(unittest.TestCase):
@@ -148,7 +133,7 @@ class ReplacementTest(unittest.TestCase):
             allowed = found(after, top) if after.has(top) else []
             for item in found(before, top):
                 if item not in allowed:
-                    expected = replaced(rows, item, top, allowed)
+                    expected = replaced_in(rows, item, top, allowed)
                     self.assertEqual(expected, replacement(before, item, top, allowed))
 
 

@@ -4,7 +4,7 @@ import unittest
 
 from keyfocus.focusable import focusable_items
 from keyfocus.taborder import composite_of, members, outer_composites, place_of, stop_of, tab_stops
-from trees import between_in, focusable_in, layer_in, random_tree, rows_of, told, tree_of
+from trees import composite_in, focusable_in, layer_in, random_tree, rows_of, told, tree_of
 
 BOTH = ("linear", "circular")
 SAMPLE = (
@@ -31,12 +31,6 @@ SAMPLE = (
 
 def sample():
     return tree_of(*SAMPLE)
-
-
-def composite_in(rows, name):
-    """The composite of a node, told by rows."""
-    around = [other for other in between_in(rows, name) if rows.kind(other) in BOTH]
-    return min(around, key=rows.depth) if around else None
 
 
 class CompositeTest(unittest.TestCase):

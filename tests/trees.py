@@ -74,7 +74,12 @@ class Rows:
         return [other for other in self.subtree(name) if self.depth(other) == self.depth(name) + 1]
 
     def ancestors(self, name):
-        return [row[0] for row in reversed(self.rows) if row[0] != name and name in self.subtree(row[0])]
+        found, depth = [], self.depth(name)
+        for row in reversed(self.rows[:self.at(name)]):
+            if row[5] < depth:
+                found.append(row[0])
+                depth = row[5]
+        return found
 
     def place(self, parent, index):
         """The row before which the child of a parent at an index stands."""
@@ -164,3 +169,24 @@ def focusable_in(rows, layer):
     return [row[0] for row in rows.rows
             if row[1] == "item" and layer_in(rows, row[0]) == layer
             and all(shown[node] for node in [row[0]] + between_in(rows, row[0]))]
+
+
+def composite_in(rows, name):
+    """The composite of a node, told by rows."""
+    around = [other for other in between_in(rows, name) if rows.kind(other) in ("linear", "circular")]
+    return min(around, key=rows.depth) if around else None
+
+
+def replaced_in(rows, item, top, allowed):
+    """The replacement, told by the distances of the rows."""
+    names = [row[0] for row in rows.rows]
+    at = names.index(item)
+    ancestors = rows.ancestors(item)
+    for ancestor in ancestors[:ancestors.index(top) + 1]:
+        inside = [names.index(name) for name in allowed if name in rows.subtree(ancestor)]
+        later, earlier = [one for one in inside if one > at], [one for one in inside if one < at]
+        if later:
+            return names[min(later)]
+        if earlier:
+            return names[max(earlier)]
+    return allowed[0] if allowed else None
