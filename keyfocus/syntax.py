@@ -26,10 +26,18 @@ def quoted(label):
     return f'"{escaped}"'
 
 
+def text_in(quotation):
+    """The text whose quotation is given, or None."""
+    text = quotation[1:-1].replace('\\"', '"').replace("\\\\", "\\")
+    # These steps restore every text, but they take quotations that are none, too.
+    if quoted(text) != quotation:
+        return None
+    return text
+
+
 def unquoted(text):
     """The label whose quoted label a text is, or None."""
-    label = text[1:-1].replace('\\"', '"').replace("\\\\", "\\")
-    # These steps restore every label, but they take texts that quote none, too.
-    if quoted(label) != text or not is_label(label):
+    label = text_in(text)
+    if not is_label(label):
         return None
     return label

@@ -1,6 +1,6 @@
 """Composites, their members, and the tab stops of layers."""
 
-from keyfocus.focusable import between, focusable_items, layer_of
+from keyfocus.focusable import between, focusable_items, is_focusable
 
 COMPOSITE_KINDS = ("linear", "circular")
 
@@ -21,8 +21,8 @@ def outer_composites(tree):
 
 def members(tree, composite):
     """The list of the members of a composite, in document order."""
-    items = focusable_items(tree, layer_of(tree, composite))
-    return [item for item in items if composite_of(tree, item) == composite]
+    return [name for name in tree.subtree(composite)
+            if is_focusable(tree, name) and composite_of(tree, name) == composite]
 
 
 def stop_of(tree, item):

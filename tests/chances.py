@@ -11,6 +11,8 @@ KEYS = ("bind", "bind", "unbind", "press", "press", "press", "press", "shadowing
 OTHERS = ("focus", "focus", "shortest_route", "announce", "take", "node", "children", "ancestors",
           "current_item", "layer_item", "focusable_items", "tab_stops", "bindings")
 STROKES = ("a", "B", "ctrl+a", "Tab", "Shift+tab", "home", "end", "Escape", "enter", "Right", "up", "x")
+DEEDS = EDITS + MOVES + ("open_layer", "close_layer", "close_opening", "bind", "unbind", "press", "execute", "focus",
+                         "announce", "take")
 
 
 class Chance:
@@ -23,6 +25,14 @@ class Chance:
         groups = (EDITS, MOVES, LAYERS, KEYS, OTHERS)
         word = self.chance.choice(self.chance.choice(groups))
         return word, self.arguments(manager, word)
+
+    def deeds(self, session, many):
+        """Deeds, one after another, for the manager of a session as it is then."""
+        while many > 0:
+            word, arguments = self.call(session.manager)
+            if word in DEEDS:
+                many -= 1
+                yield (word,) + arguments
 
     def arguments(self, manager, word):
         pick = self.chance.choice
@@ -39,7 +49,7 @@ class Chance:
         if word == "typeahead":
             return (pick(("o", "O", "ok", "c", "z", "")),)
         if word in ("close_opening", "is_closed"):
-            return (self.chance.randrange(-1, 12),)
+            return (self.chance.randrange(12),)
         if word == "bind":
             return self.on_path(manager), self.sequence(), self.command(manager)
         if word in ("unbind", "shadowing"):

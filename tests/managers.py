@@ -78,7 +78,7 @@ class Watched:
     def called(self, word, arguments):
         before = state(self.manager)
         try:
-            found = getattr(self.manager, word)(*arguments)
+            found = self.run(word, arguments)
         except (Refused, BadKeys):
             self.case.assertEqual(before, state(self.manager), (word, arguments))
             raise
@@ -90,6 +90,9 @@ class Watched:
         elif word != "press":
             self.case.assertEqual(before["pending"], self.manager.pending())
         return self.spoiled(found)
+
+    def run(self, word, arguments):
+        return getattr(self.manager, word)(*arguments)
 
     def spoiled(self, found):
         """A copy of what was returned; if this is a list, it is changed, which changes nothing else."""

@@ -18,6 +18,13 @@ FUNCTIONS = {
     "routes": ("route_within(tree, start, target)",),
     "keyhelp": ("live_bindings(manager)", "hidden_bindings(manager)", "live_defaults(manager)",
                 "meaning(manager, text)", "next_strokes(manager)", "help_text(manager)"),
+    "treediff": ("differences(one, other)", "edits(one, other)", "edited(tree, deeds)"),
+    "deeds": ("tree_deeds(deeds)", "played(outline, deeds)", "openings_of(deeds)", "done(manager, deed)"),
+    "scripts": ("read_script(text)", "write_script(deeds)", "is_deed(thing)"),
+    "report": ("report(manager)",),
+    "syntax": ("is_name(thing)", "is_label(thing)", "quoted(label)", "unquoted(text)"),
+    "keystrokes": ("keystroke(text)", "key_sequence(text)", "is_prefix(one, two)", "shown(strokes)"),
+    "commands": ("command_of(text)",),
 }
 METHODS = {
     ("tree", "Tree"): (
@@ -49,6 +56,7 @@ METHODS = {
         "execute(self, command)", "announce(self, text, assertive)", "queued(self)", "take(self)",
         "shortest_route(self, name)",
     ),
+    ("deeds", "Session"): ("__init__(self, outline)", "do(self, deed)", "deeds(self)", "undo(self)"),
 }
 
 
